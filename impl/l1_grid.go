@@ -101,7 +101,7 @@ func BlockName(g Grid, i int) (string, bool) {
 	if !isBlock(g, i) {
 		return "", false
 	}
-	return joinPlace(findPlace(g, i), ","), true
+	return joinNumbers(findPlace(g, i), ","), true
 }
 
 // ParseBlock returns the block with the given BlockName. It fails if there is none.
@@ -118,7 +118,7 @@ func GridText(g Grid) (string, bool) {
 	if !IsGrid(g) {
 		return "", false
 	}
-	return joinPlace(sizesOf(g), "x"), true
+	return joinNumbers(sizesOf(g), "x"), true
 }
 
 func sizesOf(g Grid) place {
@@ -181,8 +181,8 @@ func isWithin(p place, q place, r int) bool {
 	return true
 }
 
-func joinPlace(p place, separator string) string {
-	return strconv.Itoa(p[0]) + separator + strconv.Itoa(p[1]) + separator + strconv.Itoa(p[2])
+func joinNumbers(l [3]int, separator string) string {
+	return strconv.Itoa(l[0]) + separator + strconv.Itoa(l[1]) + separator + strconv.Itoa(l[2])
 }
 
 // scanName takes only three digits with commas between them: a longer spelling of a number is no name of a block.
