@@ -304,9 +304,6 @@ func TestProfilesOfFewBlocks(t *testing.T) {
 			deepest := slices.Repeat([]int{c.depth}, c.columns)
 			best, worth := bestProfileByHand(values, profiles, deepest)
 			checkBestProfile(t, values, best, worth)
-			if worth%2 == 0 {
-				return
-			}
 			eachDepths(c.columns, c.depth, func(most []int) {
 				best, worth := bestProfileByHand(values, profiles, most)
 				checkBestBelow(t, values, most, best, worth)
