@@ -79,8 +79,11 @@ func (s wideGrid) trim(arcs [][]int, pit []int) []int {
 	}
 }
 
-// widen sorts all squares of the first block that is not wide as the document orders them.
+// widen sorts all squares of the first block that is not wide as the document orders them. It fails only where the grid has no square at all.
 func (s wideGrid) widen(reach [][]bool, pit []int) ([]int, bool) {
+	if len(s.squares) == 0 {
+		return nil, false
+	}
 	closure := marksByHand(pit)
 	for {
 		wide := s.wide(closure)
@@ -90,9 +93,6 @@ func (s wideGrid) widen(reach [][]bool, pit []int) ([]int, bool) {
 		}
 		narrow := listByHand(closure)[at]
 		squares := slices.DeleteFunc(slices.Clone(s.squares), func(square []int) bool { return !slices.Contains(square, narrow) })
-		if len(squares) == 0 {
-			return nil, false
-		}
 		slices.SortFunc(squares, func(a, b []int) int {
 			return cmp.Or(
 				cmp.Compare(countOutside(a, closure), countOutside(b, closure)),
@@ -623,8 +623,8 @@ func TestWidenedPitsAtTheirEdges(t *testing.T) {
 		w    int
 		want []int
 	}{
-		{"no block", three, noArcs(9), nil, 2, nil}, {"no block in a narrow grid", row, noArcs(3), nil, 3, nil}, {"no block of one", impl.Grid{X: 1, Y: 1, Z: 1}, noArcs(1), nil, 2, nil},
-		{"a width of 1", three, noArcs(9), []int{3, 8}, 1, []int{3, 8}}, {"a wide pit", three, stepArcs(9, 3), []int{0, 1, 3, 4}, 2, []int{0, 1, 3, 4}}, {"all blocks", three, allArcs(9), validLists(9)[4], 3, validLists(9)[4]},
+		{"no block", three, noArcs(9), nil, 2, nil}, {"no block and a square of three", three, noArcs(9), nil, 3, nil}, {"no block of one", impl.Grid{X: 1, Y: 1, Z: 1}, noArcs(1), nil, 1, nil},
+		{"a width of 1 in a narrow grid", row, stepArcs(3, 1), []int{0, 1}, 1, []int{0, 1}}, {"a width of 1", three, noArcs(9), []int{3, 8}, 1, []int{3, 8}}, {"a wide pit", three, stepArcs(9, 3), []int{0, 1, 3, 4}, 2, []int{0, 1, 3, 4}}, {"all blocks", three, allArcs(9), validLists(9)[4], 3, validLists(9)[4]},
 		{"four squares of one block", three, noArcs(9), []int{4}, 2, []int{0, 1, 3, 4}}, {"two squares at the same height", three, noArcs(9), []int{1}, 2, []int{0, 1, 3, 4}}, {"two squares over each other", three, noArcs(9), []int{3}, 2, []int{0, 1, 3, 4}},
 		{"the least y of two", three, noArcs(9), []int{4, 5}, 2, []int{1, 2, 4, 5}}, {"the least x of two", three, noArcs(9), []int{4, 7}, 2, []int{3, 4, 6, 7}},
 		{"the fewest blocks at last", three, noArcs(9), []int{4, 8}, 2, []int{4, 5, 7, 8}}, {"the least y before the least x", three, noArcs(9), []int{4, 5, 6}, 2, []int{1, 2, 3, 4, 5, 6, 7}},
@@ -639,7 +639,22 @@ func TestWidenedPitsAtTheirEdges(t *testing.T) {
 	}
 }
 
-// Where there is no square, widening fails for each pit with a block.
+// checkNotWidened demands nothing from widening in a grid without a square. The other functions do not fail there: no block is wide.
+func checkNotWidened(t *testing.T, g impl.Grid, arcs [][]int, pit []int, w int) {
+	t.Helper()
+	if widened, ok := impl.WidenPit(g, arcs, pit, w); len(widened) != 0 || ok {
+		t.Error("widened", g, arcs, pit, w, widened, ok)
+	}
+	trimmed, ok := impl.TrimPit(g, arcs, pit, w)
+	checkList(t, "trimmed in a narrow grid", trimmed, ok, nil)
+	wide, ok := impl.WideBlocks(g, pit, w)
+	checkList(t, "wide in a narrow grid", wide, ok, nil)
+	if is, ok := impl.IsWide(g, pit, w); is != (len(pit) == 0) || !ok {
+		t.Error("IsWide", g, pit, w, is, ok)
+	}
+}
+
+// Where there is no square, widening fails for each pit, also for the empty one.
 func TestNarrowGridsAreNotWidened(t *testing.T) {
 	for _, g := range allGrids() {
 		n := g.X * g.Y * g.Z
@@ -647,14 +662,38 @@ func TestNarrowGridsAreNotWidened(t *testing.T) {
 			if w <= g.X && w <= g.Y {
 				continue
 			}
-			for _, pit := range [][]int{{0}, firstBlocks(n)[0], firstBlocks((n + 1) / 2)[0]} {
-				if widened, ok := impl.WidenPit(g, stepArcs(n, 1), pit, w); len(widened) != 0 || ok {
-					t.Error("widened", g, w, pit, widened, ok)
+			for _, arcs := range [][][]int{noArcs(n), stepArcs(n, 1), allArcs(n)} {
+				for _, pit := range [][]int{nil, {}, {0}, firstBlocks(n)[0], firstBlocks((n + 1) / 2)[0]} {
+					checkNotWidened(t, g, arcs, pit, w)
 				}
 			}
-			for what, call := range widthFunctions() {
-				none, ok := call(g, stepArcs(n, 1), nil, w)
-				checkList(t, what, none, ok, nil)
+		}
+	}
+}
+
+// An empty pit is left as it is where the grid has a square, be it the only one, and is refused where it has none.
+func TestEmptyPitsAreWidenedInWideGrids(t *testing.T) {
+	for _, c := range []struct {
+		what string
+		g    impl.Grid
+		w    int
+		ok   bool
+	}{
+		{"one block", impl.Grid{X: 1, Y: 1, Z: 1}, 2, false}, {"one block", impl.Grid{X: 1, Y: 1, Z: 1}, 3, false},
+		{"too narrow in x for 2", impl.Grid{X: 1, Y: 2, Z: 1}, 2, false}, {"much too long for 2", impl.Grid{X: 1, Y: 6, Z: 5}, 2, false},
+		{"too narrow in y for 2", impl.Grid{X: 2, Y: 1, Z: 1}, 2, false}, {"much too broad for 2", impl.Grid{X: 8, Y: 1, Z: 5}, 2, false},
+		{"too narrow in x for 3", impl.Grid{X: 2, Y: 3, Z: 1}, 3, false}, {"much too long for 3", impl.Grid{X: 2, Y: 6, Z: 5}, 3, false},
+		{"too narrow in y for 3", impl.Grid{X: 3, Y: 2, Z: 1}, 3, false}, {"much too broad for 3", impl.Grid{X: 8, Y: 2, Z: 5}, 3, false},
+		{"too narrow in both for 3", impl.Grid{X: 2, Y: 2, Z: 1}, 3, false}, {"levels that do not make it broader", impl.Grid{X: 1, Y: 1, Z: 5}, 2, false}, {"levels that do not make it broader", impl.Grid{X: 2, Y: 2, Z: 5}, 3, false},
+		{"just one square of 1", impl.Grid{X: 1, Y: 1, Z: 1}, 1, true}, {"just one square of 2", impl.Grid{X: 2, Y: 2, Z: 1}, 2, true}, {"just one square of 3", impl.Grid{X: 3, Y: 3, Z: 1}, 3, true},
+		{"two squares in x", impl.Grid{X: 3, Y: 2, Z: 1}, 2, true}, {"two squares in y", impl.Grid{X: 3, Y: 4, Z: 1}, 3, true}, {"one square in each level", impl.Grid{X: 3, Y: 3, Z: 5}, 3, true},
+	} {
+		n := c.g.X * c.g.Y * c.g.Z
+		for _, arcs := range [][][]int{noArcs(n), stepArcs(n, 1), allArcs(n)} {
+			for _, pit := range [][]int{nil, {}} {
+				if widened, ok := impl.WidenPit(c.g, arcs, pit, c.w); len(widened) != 0 || ok != c.ok {
+					t.Error(c.what, c.g, c.w, widened, ok)
+				}
 			}
 		}
 	}
